@@ -1,0 +1,1 @@
+"""Prints that are made under masks."""

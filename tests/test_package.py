@@ -1,0 +1,88 @@
+"""The interface's names, and the rules of the language that a test can see in the files of the package."""
+
+import ast
+import inspect
+import pathlib
+import re
+import unittest
+
+import maskedprints
+from maskedprints import negatives, recipes
+
+FOLDER = pathlib.Path(maskedprints.__file__).parent
+BARRED = ("type typing typing_extensions enum Enum IntEnum StrEnum Flag IntFlag Generic Protocol ABC ABCMeta namedtuple "
+          "NamedTuple TypedDict TYPE_CHECKING abstractmethod").split()
+INTERFACE = {
+    negatives: {
+        "Negative": ["width", "height", "densities"],
+        "lights": ["negative", "recipe"],
+        "printed": ["negative", "steps", "recipe"],
+        "growing": ["negative", "steps", "recipe"],
+        "first_tone": ["negative", "steps", "recipe", "cell", "tone"],
+    },
+    recipes: {
+        "open_times": ["width", "height", "recipe"],
+        "needless": ["width", "height", "recipe"],
+        "alike": ["width", "height", "one", "other"],
+        "parting": ["width", "height", "one", "other"],
+    },
+}
+
+
+def files():
+    """The paths of all files of the package."""
+    return sorted(FOLDER.glob("*.py"))
+
+
+class InterfaceTest(unittest.TestCase):
+
+    def test_names_arguments_and_files(self):
+        for module, names in INTERFACE.items():
+            for name, arguments in names.items():
+                found = getattr(module, name)
+                self.assertEqual(found.__module__, module.__name__, name)
+                self.assertEqual(list(inspect.signature(found).parameters), arguments, name)
+
+
+class LanguageTest(unittest.TestCase):
+
+    def test_the_folder_contains_nothing_else(self):
+        others = [path.name for path in FOLDER.iterdir() if path.suffix != ".py" and path.name != "__pycache__"]
+        self.assertEqual(others, [])
+
+    def test_lines_and_characters(self):
+        for path in files():
+            lines = path.read_text(encoding="utf-8").split("\n")
+            self.assertLessEqual(len(lines), 399, path)
+            for line in lines:
+                self.assertLessEqual(len(line), 120, line)
+                self.assertRegex(line, "^[ -~]*$")
+
+    def test_barred_words(self):
+        for path in files():
+            words = re.findall(r"\w+", path.read_text(encoding="utf-8"))
+            self.assertEqual([word for word in words if word in BARRED], [], path)
+
+    def test_functions_are_short(self):
+        for path in files():
+            for node in ast.walk(ast.parse(path.read_text(encoding="utf-8"))):
+                if isinstance(node, ast.FunctionDef):
+                    self.assertLessEqual(node.end_lineno - node.lineno + 1, 40, node.name)
+
+    def test_imports_name_the_file_that_defines(self):
+        for path in files():
+            for node in ast.walk(ast.parse(path.read_text(encoding="utf-8"))):
+                self.assertNotIsInstance(node, ast.Import, path)
+                if isinstance(node, ast.ImportFrom):
+                    self.assertEqual(node.level, 0)
+                    self.assertTrue(node.module.startswith("maskedprints."), node.module)
+                    source = FOLDER / (node.module.split(".")[1] + ".py")
+                    body = ast.parse(source.read_text(encoding="utf-8")).body
+                    defined = [item.name for item in body if isinstance(item, (ast.FunctionDef, ast.ClassDef))]
+                    defined += [item.targets[0].id for item in body if isinstance(item, ast.Assign)]
+                    for alias in node.names:
+                        self.assertIn(alias.name, defined)
+
+
+if __name__ == "__main__":
+    unittest.main()
