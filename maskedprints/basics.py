@@ -1,6 +1,6 @@
 """What the files of the package share: the checks of arguments, and what deeds do to a cell."""
 
-from maskedprints.errors import InvalidNumber, InvalidRecipe, InvalidSize, InvalidSteps, UnknownCell
+from maskedprints.errors import InvalidNumber, InvalidRecipe, InvalidSize, InvalidSteps, InvalidTones, UnknownCell
 
 MOST_SIDE = 4
 MOST_CELLS = 9
@@ -11,6 +11,8 @@ MOST_DEEDS = 8
 FLIP = ("flip",)
 MOST_STEPS = 5
 GREATEST_STEP = 9999
+TONES = "012345"
+UNSEEN = "?"
 
 
 def is_number(value, least, most):
@@ -43,9 +45,14 @@ def check_size(width, height):
         raise InvalidSize()
 
 
+def are_steps(steps):
+    """Whether a paper can have such steps."""
+    return 1 <= len(steps) <= MOST_STEPS and ascends(steps, 1, GREATEST_STEP)
+
+
 def check_steps(steps):
     """Raise InvalidSteps if no paper has such steps."""
-    if not 1 <= len(steps) <= MOST_STEPS or not ascends(steps, 1, GREATEST_STEP):
+    if not are_steps(steps):
         raise InvalidSteps()
 
 
@@ -59,6 +66,22 @@ def check_number(value, least, most):
     """Raise InvalidNumber if it is no integer in a range."""
     if not is_number(value, least, most):
         raise InvalidNumber()
+
+
+def check_figures(text, figures, cells):
+    """Raise InvalidTones if it is no text of one of these figures for each of so many cells."""
+    if not isinstance(text, str) or len(text) != cells or not all([figure in figures for figure in text]):
+        raise InvalidTones()
+
+
+def check_goal(goal, most, cells):
+    """Raise InvalidTones if it is no text of the tones, from 0 to a greatest one, of so many cells."""
+    check_figures(goal, TONES[:most + 1], cells)
+
+
+def check_seen(tones, most, cells):
+    """Raise InvalidTones if these are no tones, from 0 to a greatest one, that were seen of so many cells."""
+    check_figures(tones, TONES[:most + 1] + UNSEEN, cells)
 
 
 def is_mask(covered, cells):
@@ -111,13 +134,31 @@ def open_pair(width, recipe, cell):
     return (straight, over)
 
 
+def light_by(ticks, density, turned):
+    """How many units of light such open times give through a density, and the one that lies there turned over."""
+    straight, over = ticks
+    return straight * UNITS[density] + over * UNITS[turned]
+
+
 def light_of(width, densities, recipe, cell):
     """How many units of light a cell of the paper gets."""
-    straight, over = open_pair(width, recipe, cell)
     turned = mirrored(cell, width)
-    return straight * UNITS[int(densities[cell])] + over * UNITS[int(densities[turned])]
+    return light_by(open_pair(width, recipe, cell), int(densities[cell]), int(densities[turned]))
 
 
 def tone_of(light, steps):
     """Which tone a cell has by so much light."""
     return len([step for step in steps if step <= light])
+
+
+def ticks_to(light, units):
+    """The least number of ticks of so many units each that give at least so much light."""
+    return (light + units - 1) // units
+
+
+def product(numbers):
+    """What all of these numbers make when they are multiplied."""
+    result = 1
+    for number in numbers:
+        result *= number
+    return result

@@ -53,3 +53,14 @@ def first_parting(width, height, one, other):
 def sizes():
     """All pairs of a width and a height that a negative can have."""
     return [(width, height) for width in range(1, 5) for height in range(1, 5) if width * height <= 9]
+
+
+def shows(print_made, seen):
+    """Whether a print shows tones that were seen."""
+    return len(print_made) == len(seen) and all(mark in ("?", tone) for tone, mark in zip(print_made, seen))
+
+
+def seen_texts(cells, most):
+    """All texts of tones, from 0 to a greatest one, that can be seen of so many cells."""
+    marks = "?012345"[:most + 2]
+    return ["".join(figures) for figures in itertools.product(marks, repeat=cells)]

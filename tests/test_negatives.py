@@ -7,7 +7,7 @@ import unittest
 from maskedprints.errors import InvalidNegative, InvalidNumber, InvalidRecipe, InvalidSteps, PrintError, UnknownCell
 from maskedprints.negatives import Negative, first_tone, growing, lights, printed
 from tests import model
-from tests.checking import Checking
+from tests.checking import WRONG_STEPS, Checking
 
 GOOD = ("expose", 1, ())
 BAD = ("expose", 0, ())
@@ -31,10 +31,6 @@ WRONG_DEEDS = [
 RIGHT_DEEDS = [
     ("flip",), ("expose", 1, ()), ("expose", 99, ()), ("expose", 3, (0,)), ("expose", 3, (2,)),
     ("expose", 3, (0, 2)), ("expose", 3, (0, 1, 2)), ("draw", 1, 1), ("draw", 99, 1), ("draw", 1, 99), ("draw", 99, 99),
-]
-WRONG_STEPS = [
-    (), (1, 2, 3, 4, 5, 6), (0,), (-1,), (10000,), (0, 5), (5, 10000), (40, 10), (10, 10), (1, 3, 2), (1, 2, 2),
-    (True,), (False,), (True, 2), (1, True), (False, 1),
 ]
 RIGHT_STEPS = [(1,), (9999,), (1, 9999), (1, 2), (9998, 9999), (1, 2, 3, 4, 5), (1, 50, 51, 300, 9999)]
 

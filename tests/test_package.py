@@ -7,7 +7,7 @@ import re
 import unittest
 
 import maskedprints
-from maskedprints import negatives, recipes
+from maskedprints import behind, fewest, negatives, recipes, telling
 
 FOLDER = pathlib.Path(maskedprints.__file__).parent
 BARRED = ("type typing typing_extensions enum Enum IntEnum StrEnum Flag IntFlag Generic Protocol ABC ABCMeta namedtuple "
@@ -25,6 +25,30 @@ INTERFACE = {
         "needless": ["width", "height", "recipe"],
         "alike": ["width", "height", "one", "other"],
         "parting": ["width", "height", "one", "other"],
+    },
+    fewest: {
+        "times_for": ["negative", "steps", "cell", "tone"],
+        "exposures": ["negative", "steps", "goal", "most"],
+        "fewest_exposures": ["negative", "steps", "goal", "most"],
+        "draws_for": ["negative", "steps", "goal"],
+    },
+    telling: {
+        "told": ["width", "height", "steps", "recipe", "tones"],
+        "negative_count": ["width", "height", "steps", "recipe", "tones"],
+        "first_negative": ["width", "height", "steps", "recipe", "tones"],
+        "telling_time": ["steps", "low", "high"],
+        "papers_agree": ["papers", "negative", "recipe", "tones"],
+        "first_unlike": ["one", "other"],
+        "first_paper": ["negative", "recipe", "tones", "count"],
+        "masks_told": ["negative", "steps", "time", "tones"],
+        "mask_count": ["negative", "steps", "time", "tones"],
+    },
+    behind: {
+        "behind": ["one", "other"],
+        "least_behind": ["one", "goal"],
+        "pair_count": ["negative"],
+        "faded": ["life", "ticks", "density"],
+        "ticks_until": ["life", "light", "density"],
     },
 }
 
