@@ -1,6 +1,7 @@
 """What the files of the package share: the checks of arguments, and what deeds do to a cell."""
 
-from maskedprints.errors import InvalidNumber, InvalidRecipe, InvalidSize, InvalidSteps, InvalidTones, UnknownCell
+from maskedprints.errors import InvalidNumber, InvalidPapers, InvalidRecipe, InvalidSize, InvalidSteps, InvalidTones
+from maskedprints.errors import UnknownCell
 
 MOST_SIDE = 4
 MOST_CELLS = 9
@@ -54,6 +55,13 @@ def check_steps(steps):
     """Raise InvalidSteps if no paper has such steps."""
     if not are_steps(steps):
         raise InvalidSteps()
+
+
+def check_papers(papers, most):
+    """Raise InvalidPapers if one of these, or of more than so many, can be no paper."""
+    for index, steps in enumerate(papers):
+        if index == most or not are_steps(steps):
+            raise InvalidPapers(index)
 
 
 def check_cell(cell, cells):

@@ -1,8 +1,8 @@
 """What prints tell of a negative that nobody has looked at, of papers, and of masks."""
 
-from maskedprints.basics import MOST_STEPS, MOST_TICKS, UNITS, UNSEEN, are_steps, check_number, check_recipe
-from maskedprints.basics import check_seen, check_size, check_steps, light_by, mirrored, open_pair, product, tone_of
-from maskedprints.errors import InvalidPapers
+from maskedprints.basics import MOST_STEPS, MOST_TICKS, UNITS, UNSEEN, are_steps, check_number, check_papers
+from maskedprints.basics import check_recipe, check_seen, check_size, check_steps, light_by, mirrored, open_pair
+from maskedprints.basics import product, tone_of
 from maskedprints.negatives import lights
 
 LONGEST_TELLING = 999
@@ -54,9 +54,8 @@ def telling_time(steps, low, high):
 
 def papers_agree(papers, negative, recipe, tones):
     """The indexes of all papers on which a print can show tones that were seen."""
-    for index, steps in enumerate(papers):
-        if not are_steps(steps):
-            raise InvalidPapers(index)
+    # There is no limit of how many papers these are.
+    check_papers(papers, len(papers))
     check_recipe(recipe, len(negative))
     check_seen(tones, MOST_STEPS, len(negative))
     got = lights(negative, recipe)
@@ -157,6 +156,11 @@ def mask_ways(negative, steps, time, tones):
     check_steps(steps)
     check_number(time, 1, MOST_TICKS)
     check_seen(tones, len(steps), len(negative))
+    return ways_under_mask(negative, steps, time, tones)
+
+
+def ways_under_mask(negative, steps, time, tones):
+    """The texts of `mask_ways` for arguments that were checked."""
     ways = []
     for figure, tone in zip(negative.densities, tones):
         covered = COVERED if shows(tone, 0, steps) else ""

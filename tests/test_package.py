@@ -7,7 +7,7 @@ import re
 import unittest
 
 import maskedprints
-from maskedprints import behind, fewest, negatives, recipes, telling
+from maskedprints import behind, fewest, negatives, recipes, repeats, rooms, strips, telling
 
 FOLDER = pathlib.Path(maskedprints.__file__).parent
 BARRED = ("type typing typing_extensions enum Enum IntEnum StrEnum Flag IntFlag Generic Protocol ABC ABCMeta namedtuple "
@@ -50,6 +50,47 @@ INTERFACE = {
         "faded": ["life", "ticks", "density"],
         "ticks_until": ["life", "light", "density"],
     },
+    strips: {
+        "strip_recipe": ["width", "height", "time"],
+        "bands": ["negative", "steps", "time", "tone"],
+        "band_times": ["negative", "steps", "column", "tone"],
+        "quick": ["one", "other"],
+        "quick_row": ["papers"],
+        "quick_count": ["papers"],
+        "exposure_times": ["negative", "steps", "covered", "tones"],
+        "exposure_count": ["negative", "steps", "tones"],
+        "first_exposure": ["negative", "steps", "tones"],
+    },
+    repeats: {
+        "light_after": ["negative", "recipe", "cell", "count"],
+        "times_until": ["negative", "steps", "recipe", "cell", "tone"],
+        "same_print": ["negative", "steps", "recipe", "most"],
+        "dark_order": ["negative", "steps", "recipe"],
+    },
+    rooms: {
+        "Darkroom": ["negative", "steps"],
+        "Trial": ["room"],
+    },
+}
+# The methods of the classes, which stand in the classes themselves, and their properties.
+METHODS = {
+    rooms.Darkroom: {
+        "expose": ["time", "covered"],
+        "draw": ["time", "pace"],
+        "flip": [],
+        "fresh": [],
+        "keep_as": ["name"],
+        "fetch": ["name"],
+        "undo": [],
+        "redo": [],
+        "apply_all": ["operations"],
+        "tried_out": ["operations", "keep"],
+    },
+    rooms.Trial: {"hold": []},
+}
+PROPERTIES = {
+    negatives.Negative: ["width", "height", "densities"],
+    rooms.Darkroom: ["print_now", "lights_now", "is_over", "prints_made", "kept_under", "history"],
 }
 
 
@@ -66,6 +107,20 @@ class InterfaceTest(unittest.TestCase):
                 found = getattr(module, name)
                 self.assertEqual(found.__module__, module.__name__, name)
                 self.assertEqual(list(inspect.signature(found).parameters), arguments, name)
+
+
+    def test_methods_and_properties(self):
+        for owner, names in METHODS.items():
+            for name, arguments in names.items():
+                self.assertEqual(list(inspect.signature(vars(owner)[name]).parameters), ["self"] + arguments, name)
+        for owner, names in PROPERTIES.items():
+            for name in names:
+                self.assertIsInstance(vars(owner)[name], property, name)
+
+    def test_class_methods(self):
+        found = vars(rooms.Darkroom)["replay"]
+        self.assertIsInstance(found, classmethod)
+        self.assertEqual(list(inspect.signature(rooms.Darkroom.replay).parameters), ["negative", "steps", "operations"])
 
 
 class LanguageTest(unittest.TestCase):
