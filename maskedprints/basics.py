@@ -6,6 +6,7 @@ from maskedprints.errors import UnknownCell
 MOST_SIDE = 4
 MOST_CELLS = 9
 DENSITIES = "01234"
+DENSEST = 4
 UNITS = (16, 8, 4, 2, 1)
 MOST_TICKS = 99
 MOST_DEEDS = 8

@@ -1,10 +1,9 @@
 """What two negatives one behind the other do, and how long a lamp that fades must shine."""
 
-from maskedprints.basics import UNITS, check_number, product, ticks_to
+from maskedprints.basics import DENSEST, UNITS, check_number, product, ticks_to
 from maskedprints.errors import UnlikeSizes
 from maskedprints.negatives import Negative
 
-DENSEST = 4
 # For a density below 4 each part from 0 to it makes a pair; for 4, all 25 pairs but the ten whose sums are less.
 PAIRS_FOR = (1, 2, 3, 4, 15)
 LONGEST_LIFE = 10 ** 15

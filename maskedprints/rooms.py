@@ -24,10 +24,12 @@ class Trial:
 
     def __init__(self, room):
         self.room = room
-        self.start()
 
     def __enter__(self):
-        self.start()
+        self.held = None
+        self.now = self.room.now
+        self.done = list(self.room.done)
+        self.undone = list(self.room.undone)
         return self
 
     def __exit__(self, kind, value, trace):
@@ -35,13 +37,6 @@ class Trial:
             self.room.now = self.now
             self.room.done = self.done
             self.room.undone = self.undone
-
-    def start(self):
-        """Remember how the darkroom is."""
-        self.held = None
-        self.now = self.room.now
-        self.done = list(self.room.done)
-        self.undone = list(self.room.undone)
 
     def hold(self):
         """Let the darkroom stay as it is at the end of the block."""

@@ -15,7 +15,7 @@ def told(width, height, steps, recipe, tones):
     ways = all_ways(width, height, steps, recipe, tones)
     if [] in ways:
         return None
-    return "".join([sure_density(pairs) for pairs in ways])
+    return "".join([sure_figure([density for density, other in pairs]) for pairs in ways])
 
 
 def negative_count(width, height, steps, recipe, tones):
@@ -133,9 +133,9 @@ def density_pairs(is_middle):
     return [(density, other) for density in figures for other in figures if density == other or not is_middle]
 
 
-def sure_density(pairs):
-    """The figure of the first density of all pairs if it is the same one, else that of what is not known."""
-    found = sorted({density for density, other in pairs})
+def sure_figure(numbers):
+    """The figure of all of these numbers if they are the same, else that of what is not known."""
+    found = sorted(set(numbers))
     return str(found[0]) if len(found) == 1 else UNSEEN
 
 

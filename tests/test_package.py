@@ -7,7 +7,8 @@ import re
 import unittest
 
 import maskedprints
-from maskedprints import behind, fewest, negatives, recipes, repeats, rooms, strips, telling
+from maskedprints import behind, codec, fewest, negatives, notation, recipes, repeats, rooms, scripts, strips, telling
+from maskedprints import viewing
 
 FOLDER = pathlib.Path(maskedprints.__file__).parent
 BARRED = ("type typing typing_extensions enum Enum IntEnum StrEnum Flag IntFlag Generic Protocol ABC ABCMeta namedtuple "
@@ -71,6 +72,22 @@ INTERFACE = {
         "Darkroom": ["negative", "steps"],
         "Trial": ["room"],
     },
+    viewing: {
+        "Viewer": ["width", "height", "steps", "recipe"],
+    },
+    notation: {
+        "picture": ["negative"],
+        "recipe_text": ["recipe"],
+        "read_recipe": ["negative", "text"],
+        "open_map": ["width", "height", "recipe"],
+    },
+    codec: {
+        "encode_negative": ["negative"],
+        "decode_negative": ["values"],
+    },
+    scripts: {
+        "run_script": ["negative", "steps", "text"],
+    },
 }
 # The methods of the classes, which stand in the classes themselves, and their properties.
 METHODS = {
@@ -87,10 +104,12 @@ METHODS = {
         "tried_out": ["operations", "keep"],
     },
     rooms.Trial: {"hold": []},
+    viewing.Viewer: {"seen": ["cell", "tone"], "best_look": [], "sure_densities": [], "sure_tones": []},
 }
 PROPERTIES = {
     negatives.Negative: ["width", "height", "densities"],
     rooms.Darkroom: ["print_now", "lights_now", "is_over", "prints_made", "kept_under", "history"],
+    viewing.Viewer: ["count_left", "told_so_far"],
 }
 
 
@@ -147,6 +166,16 @@ class LanguageTest(unittest.TestCase):
             for node in ast.walk(ast.parse(path.read_text(encoding="utf-8"))):
                 if isinstance(node, ast.FunctionDef):
                     self.assertLessEqual(node.end_lineno - node.lineno + 1, 40, node.name)
+
+    def test_no_name_is_a_method_and_an_attribute(self):
+        methods, attributes = set(), set()
+        for path in files():
+            for node in ast.walk(ast.parse(path.read_text(encoding="utf-8"))):
+                if isinstance(node, ast.ClassDef):
+                    methods |= {item.name for item in node.body if isinstance(item, ast.FunctionDef)}
+                if isinstance(node, ast.Attribute) and isinstance(node.ctx, ast.Store):
+                    attributes.add(node.attr)
+        self.assertEqual(methods & attributes, set())
 
     def test_imports_name_the_file_that_defines(self):
         for path in files():

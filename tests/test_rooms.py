@@ -663,8 +663,8 @@ class SlowModelTest(RoomCase):
 
     def test_long_rows_of_operations(self):
         chance = random.Random(22)
-        choices = [ONCE, ("expose", 2, (0,)), ("expose", 3, (1, 2)), ("draw", 4, 1), FLIP, FRESH, KEEP, ("keep_as", "b"),
-                   FETCH, ("fetch", "b"), ("fetch", "c"), UNDO, UNDO, REDO, REDO]
+        choices = [ONCE, ("expose", 2, (0,)), ("expose", 3, (1, 2)), ("draw", 4, 1), FLIP, FRESH, KEEP,
+                   ("keep_as", "b"), FETCH, ("fetch", "b"), ("fetch", "c"), UNDO, UNDO, REDO, REDO]
         for again in range(40):
             figures = "".join(chance.choice("01234") for cell in range(4))
             steps = tuple(sorted(chance.sample(range(1, 60), 3)))
