@@ -23,10 +23,11 @@ NO_ROWS = [
     "fresh fresh", "show 1", "show show", "end 1", "end x", "expose", "expose ", "expose x", "expose -1", "expose 00",
     "expose 01", "expose 100", "expose 1 ", "expose  1", "expose 1 x", "expose 1 00", "expose 1 100", "expose 1  0",
     "expose 1 0 ", "expose 1 0 x", "draw", "draw 1", "draw 1 ", "draw 1 x", "draw x 1", "draw 1 1 1", "draw 01 1",
-    "draw 1 01", "draw 1  1", "draw 1 1 ", "draw 100 1", "draw 1 100", "repeat", "repeat ", "repeat x", "repeat 1 1", "repeat 00",
-    "repeat 01", "repeat 100", "repeat -1", "repeat 1 ", "when", "when 0", "when 0 ", "when 0 x", "when x 0",
-    "when 0 0 0", "when 00 0", "when 0 00", "when 100 0", "when 0 100", "when 0 -1", "keep_as a", "fetch a", "undo",
-    "redo", "print", "repeat \u0661", "draw \u00b2 1", "flip\t", "flip\r", "\tflip", "else", "end end",
+    "draw 1 01", "draw 1  1", "draw 1 1 ", "draw 100 1", "draw 1 100", "repeat", "repeat ", "repeat x", "repeat 1 1",
+    "repeat 00", "repeat 01", "repeat 100", "repeat -1", "repeat 1 ", "when", "when 0", "when 0 ", "when 0 x",
+    "when x 0", "when 0 0 0", "when 00 0", "when 0 00", "when 100 0", "when 0 100", "when 0 -1", "keep_as a",
+    "fetch a", "undo", "redo", "print", "repeat \u0661", "draw \u00b2 1", "flip\t", "flip\r", "\tflip", "else",
+    "end end",
 ]
 
 
